@@ -1,0 +1,1 @@
+"""Alltriangular: tables of one lot, made triangular together."""

@@ -1,0 +1,197 @@
+"""The rules of the language that can be seen in the files of the package."""
+
+import ast
+import pathlib
+import unittest
+import warnings
+
+FOLDER = pathlib.Path(__file__).resolve().parent.parent / "alltriangular"
+
+BUILTINS = set("""len range enumerate zip min max sum abs sorted reversed int str bool bytes list tuple dict set
+frozenset isinstance ord repr any all divmod pow getattr hasattr setattr map iter next super property staticmethod
+classmethod Exception ValueError TypeError KeyError IndexError LookupError ZeroDivisionError ArithmeticError
+OverflowError RuntimeError NotImplementedError AttributeError StopIteration NotImplemented""".split())
+
+PYTHONS_NAMES = set(dir(__builtins__) if not isinstance(__builtins__, dict) else __builtins__)
+
+LIBRARY = {
+    "heapq": {"heappush", "heappop", "heapify", "heapreplace", "heappushpop"},
+    "math": {"gcd", "lcm", "isqrt", "comb", "perm", "factorial"},
+    "itertools": {"product", "combinations", "permutations", "chain", "accumulate", "pairwise", "islice", "zip_longest"},
+    "collections": {"defaultdict"},
+    "__future__": {"annotations"},
+}
+
+# L8, L12: the only names that may begin with two underscores.
+SPECIAL = set("""init eq repr str len enter exit call iter lt le gt ge ne add sub mul floordiv mod pow and or xor lshift
+rshift radd rsub rmul rfloordiv rmod rand ror rxor rlshift rrshift iadd isub imul ifloordiv imod ipow iand ior ixor
+ilshift irshift neg pos invert abs bool contains getitem setitem all version name class slots""".split())
+
+# L17: words that stand nowhere as names.
+BARRED = {"register", "mro", "elements", "open", "input", "law", "version_info", "with_traceback", "add_note"}
+
+OUTSIDE = (ast.Global, ast.AsyncFunctionDef, ast.AsyncFor, ast.AsyncWith, ast.Await, ast.GeneratorExp, ast.Div,
+           ast.MatMult)
+
+
+def files():
+    return sorted(FOLDER.glob("*.py"))
+
+
+def trees():
+    return [(path, ast.parse(path.read_text())) for path in files()]
+
+
+def nodes():
+    return [(path, node) for path, tree in trees() for node in ast.walk(tree)]
+
+
+def bound_names(node):
+    """The names that a node binds."""
+    if isinstance(node, ast.Name) and isinstance(node.ctx, ast.Store):
+        return [node.id]
+    if isinstance(node, ast.arg):
+        return [node.arg]
+    if isinstance(node, (ast.FunctionDef, ast.ClassDef)):
+        return [node.name]
+    if isinstance(node, ast.alias):
+        return [node.asname or node.name]
+    if isinstance(node, ast.ExceptHandler) and node.name:
+        return [node.name]
+    return []
+
+
+class FilesTest(unittest.TestCase):
+    def test_one_folder_of_python_files(self):
+        for path in FOLDER.iterdir():
+            if path.name != "__pycache__":
+                self.assertRegex(path.name, r"\A(__init__|__main__|[a-z][a-z0-9_]*)\.py\Z")
+        self.assertTrue((FOLDER / "__init__.py").is_file())
+        self.assertFalse([path for path in FOLDER.iterdir() if path.name.startswith("test")])
+
+    def test_characters_and_lengths(self):
+        for path in files():
+            data = path.read_bytes()
+            self.assertEqual([byte for byte in data if byte != 10 and not 32 <= byte <= 126], [], path)
+            lines = data.decode().split("\n")
+            self.assertLessEqual(len(lines), 399, path)
+            for line in lines:
+                self.assertLessEqual(len(line), 120, (path, line))
+
+    def test_no_warnings(self):
+        for path in files():
+            with warnings.catch_warnings():
+                warnings.simplefilter("error")
+                compile(path.read_text(), str(path), "exec")
+
+    def test_functions_are_short(self):
+        for path, node in nodes():
+            if isinstance(node, ast.FunctionDef):
+                self.assertLessEqual(node.end_lineno - node.lineno + 1, 40, (path, node.name))
+
+
+class RulesTest(unittest.TestCase):
+    def test_imports(self):
+        for path, node in nodes():
+            self.assertNotIsInstance(node, ast.Import, path)
+            if isinstance(node, ast.ImportFrom):
+                self.assertEqual(node.level, 0, path)
+                names = {alias.name for alias in node.names}
+                self.assertEqual([alias.asname for alias in node.names if alias.asname], [], path)
+                if node.module in LIBRARY:
+                    self.assertLessEqual(names, LIBRARY[node.module], path)
+                else:
+                    file = FOLDER.parent / (node.module.replace(".", "/") + ".py")
+                    self.assertEqual(node.module.split(".")[0], "alltriangular", path)
+                    self.assertLessEqual(names, self.defined(file), path)
+
+    def defined(self, file):
+        """The names that a file defines itself."""
+        found = set()
+        for node in ast.parse(file.read_text()).body:
+            if isinstance(node, (ast.FunctionDef, ast.ClassDef)):
+                found.add(node.name)
+            elif isinstance(node, ast.Assign):
+                found.update(target.id for target in node.targets)
+        return found
+
+    def test_module_level(self):
+        for path, tree in trees():
+            for node in tree.body:
+                self.assertIsInstance(node, (ast.ImportFrom, ast.FunctionDef, ast.ClassDef, ast.Assign, ast.Expr), path)
+                if isinstance(node, ast.Expr):
+                    self.assertIsInstance(node.value, ast.Constant, path)
+                    self.assertIsInstance(node.value.value, str, path)
+
+    def test_nothing_outside_the_language(self):
+        for path, node in nodes():
+            self.assertNotIsInstance(node, OUTSIDE, (path, getattr(node, "lineno", None)))
+            if isinstance(node, ast.Constant):
+                self.assertNotIsInstance(node.value, (float, complex), path)
+
+    def test_decorators(self):
+        for path, node in nodes():
+            if isinstance(node, ast.ClassDef):
+                self.assertEqual(node.decorator_list, [], path)
+            if isinstance(node, ast.FunctionDef):
+                for mark in node.decorator_list:
+                    self.assertRegex(ast.unparse(mark), r"\A(property|staticmethod|classmethod|[a-z_]+\.setter)\Z")
+
+    def test_names(self):
+        for path, node in nodes():
+            for name in bound_names(node) + ([node.attr] if isinstance(node, ast.Attribute) else []):
+                self.assertNotIn(name, BARRED, path)
+                self.assertRegex(name, r"\A(_|_?[A-Za-z][A-Za-z0-9_]*|__[a-z]+__)\Z", path)
+                if name.startswith("__"):
+                    self.assertIn(name.strip("_"), SPECIAL, path)
+        for path, tree in trees():
+            inside = {node for top in ast.walk(tree) if isinstance(top, ast.ClassDef) for node in top.body}
+            for node in ast.walk(tree):
+                if node not in inside:
+                    for name in bound_names(node):
+                        self.assertNotIn(name, PYTHONS_NAMES - {"_"}, path)
+
+    def test_builtins(self):
+        for path, tree in trees():
+            for node in ast.walk(tree):
+                if isinstance(node, ast.Name) and isinstance(node.ctx, ast.Load) and node.id in PYTHONS_NAMES:
+                    self.assertIn(node.id, BUILTINS, (path, node.lineno))
+
+    def test_names_are_bound_once_at_module_level(self):
+        for path, tree in trees():
+            names = []
+            for node in tree.body:
+                found = node.names if isinstance(node, ast.ImportFrom) else getattr(node, "targets", [node])
+                names.extend(name for part in found for name in bound_names(part))
+            self.assertEqual(len(names), len(set(names)), path)
+            for node in ast.walk(tree):
+                if isinstance(node, (ast.arg, ast.Name)):
+                    for name in bound_names(node):
+                        if node not in [target for top in tree.body for target in getattr(top, "targets", [])]:
+                            self.assertNotIn(name, names, path)
+
+    def test_caught_errors(self):
+        barred = {"Exception", "TypeError", "ArithmeticError", "OverflowError", "RuntimeError", "NotImplementedError",
+                  "AttributeError", "BaseException"}
+        for path, node in nodes():
+            if isinstance(node, ast.ExceptHandler):
+                self.assertIsNotNone(node.type, path)
+                named = {part.id for part in ast.walk(node.type) if isinstance(part, ast.Name)}
+                self.assertEqual(named & barred, set(), path)
+
+    def test_identity(self):
+        for path, node in nodes():
+            if isinstance(node, ast.Compare):
+                for sign, right in zip(node.ops, node.comparators):
+                    if isinstance(sign, (ast.Is, ast.IsNot)):
+                        told = (ast.unparse(node.left), ast.unparse(right))
+                        self.assertTrue({"None", "True", "False", "self"} & set(told), (path, told))
+
+    def test_strings(self):
+        for path, node in nodes():
+            if isinstance(node, ast.Constant) and isinstance(node.value, str):
+                self.assertNotIn(chr(37), node.value, path)
+
+
+if __name__ == "__main__":
+    unittest.main()

@@ -1,0 +1,24 @@
+"""Runs examples that are written as the document writes them."""
+
+
+def told(line, names):
+    """What a line of an example gives, as the document writes it; "" for a statement."""
+    try:
+        code = compile(line, "example", "eval")
+    except SyntaxError:
+        exec(line, names)
+        return ""
+    try:
+        return repr(eval(code, names))
+    except Exception as error:
+        attributes = ", ".join(f"{name}={value!r}" for name, value in vars(error).items())
+        return f"raises {error.__class__.__name__}({attributes})"
+
+
+def answers(text, names):
+    """Triples of each line of the examples, what it should give, and what it gives; names are kept in the dict."""
+    found = []
+    for part in text.strip().split(">>> ")[1:]:
+        line, _, wanted = part.partition("\n")
+        found.append((line, wanted.strip(), told(line, names)))
+    return found
