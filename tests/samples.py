@@ -1,5 +1,7 @@
 """Values that several tests use."""
 
+from alltriangular.lots import Lot
+
 MOST = 10 ** 6
 
 STAIRS = (((1, 1), (0, 1)), ((2, 0), (0, 3)))
@@ -42,6 +44,22 @@ def plain_lots():
                 found.append((first, second))
                 found.extend((first, second, third) for third in kinds)
     return found
+
+
+def no_tables():
+    """Values that are no tables."""
+    return odd_values() + [
+        "", "table", "12", (), ((),), ((), ()), ((1, 2),), ((1,), (2,)), ((1, 2), (3,)), ((1,), (2, 3)),
+        ((1, 2), (3, 4), (5, 6)), ((1, 2, 3), (4, 5, 6)), filled(5, 0), [[1]], [(1,)], ([1],), ((1, 2), [3, 4]),
+        ((True,),), ((False,),), ((1, 0), (0, True)), ((False, 1), (1, 1)), (("1",),), ((None,),), ((1, None), (1, 1)),
+        (("12"), ("34")), ("1",), (1,), (1, 2), ((b"1",),), (((1,),),), ((Sly(),),), (Sly(), Sly()), ((1, 2), None),
+        Lot(TURN),
+    ]
+
+
+def no_lots():
+    """Values that are no lots."""
+    return odd_values() + ["", STAIRS_TEXT, STAIRS, TURN, TURN[0], (), Lot, [Lot(TURN)], (Lot(TURN),), Lot(TURN).text]
 
 
 class Sly:

@@ -1,6 +1,10 @@
+import doctest
+import pathlib
 import unittest
 
 from transcript import answers
+
+README = pathlib.Path(__file__).resolve().parent.parent / "README.md"
 
 # The sections stand here in the order of the document: later ones use names of those before them.
 SECTIONS = [
@@ -16,6 +20,38 @@ SECTIONS = [
 >>> Lot((((1, 0), (0, 1)), ((1,),)))
 raises InvalidTables(index=1)
 """),
+    ("alltriangular/words.py", r"""
+>>> from alltriangular.words import combination, commuting, is_all, product, radical, trace, words
+>>> [words(stairs), words(swing), words(turn), is_all(stairs), is_all(swing)]
+[((), (0,), (1,)), ((), (0,), (1,), (0, 1)), ((), (0,)), False, True]
+>>> [product(stairs, (0, 1, 0)), trace(stairs, (1, 1)), product(turn, ()), combination(stairs, ((0, 4), (0, 1))), combination(turn, ((1, 0), (0, 2)))]
+[((2, 5), (0, 3)), 13, ((1, 0), (0, 1)), ((-6, 1), (4, 1), (1, 1)), None]
+>>> [radical(stairs), radical(swing), commuting(stairs), commuting(turn)]
+[(((0, 1), (0, 0)),), (), (((1, 0), (0, 1)),), (((1, 0), (0, 1)), ((0, 1), (-1, 0)))]
+"""),
+    ("alltriangular/own.py", r"""
+>>> from alltriangular.own import directions, own_numbers
+>>> [own_numbers(((2, 0), (0, 3))), own_numbers(((0, -1), (1, 0))), own_numbers(((5, 1, 0), (0, 5, 0), (0, 0, -7))), own_numbers(((0, 2), (1, 0)))]
+[((2, 1), (3, 1)), (), ((-7, 1), (5, 2)), ()]
+>>> [directions(stairs), directions(swing), directions(Lot((((4, 0), (0, 4)),)))]
+[(((1, 2), ((1, 0),)),), (), (((4,), ((1, 0), (0, 1))),)]
+"""),
+    ("alltriangular/spaces.py", r"""
+>>> from alltriangular.spaces import beside, killed, seen, spun
+>>> [spun(swing, ((1, 0),)), spun(stairs, ((3, 0),)), spun(stairs, ((0, 2), (0, 0))), spun(stairs, ()), killed(stairs), killed(turn)]
+[((1, 0), (0, 1)), ((1, 0),), ((1, 0), (0, 1)), (), ((1, 0),), ((1, 0), (0, 1))]
+>>> [seen(stairs, ((1, 1), (0, 1)))[1], seen(turn, ((2, 0), (0, 1))), beside(turn, turn).size, beside(turn, Lot((((3,),),))).tables]
+[(((2, 1), (-1, 1)), ((0, 1), (3, 1))), ((((0, 1), (-1, 2)), ((2, 1), (0, 1))),), 4, (((0, -1, 0), (1, 0, 0), (0, 0, 3)),)]
+"""),
+    ("alltriangular/views.py", r"""
+>>> from alltriangular.views import barred, layer_view, layers, over_fractions, over_roots, view
+>>> [barred(stairs), barred(swing), barred(turn), over_roots(turn), over_fractions(turn), over_roots(swing)]
+[None, ('word', 0, 1, (0, 1)), ('own', 0), True, False, False]
+>>> [layers(stairs), layers(swing), layers(turn), layers(Lot((((0, 1, 0), (0, 0, 1), (0, 0, 0)),)))]
+[(1, 1), (2,), (2,), (1, 1, 1)]
+>>> view(turn)
+raises NotTriangular(given=('own', 0))
+"""),
 ]
 
 
@@ -27,6 +63,11 @@ class ExamplesTest(unittest.TestCase):
             self.assertTrue(found)
             for line, wanted, got in found:
                 self.assertEqual(got, wanted, (section, line))
+
+    def test_those_of_the_readme(self):
+        text = README.read_text().replace("```", "")
+        told = doctest.DocTestRunner(verbose=False).run(doctest.DocTestParser().get_doctest(text, {}, "README", None, 0))
+        self.assertEqual((told.failed, told.attempted > 9), (0, True))
 
     def test_a_wrong_answer_is_seen(self):
         found = answers(">>> 1 + 1\n3\n>>> x = 5\n>>> x\n5\n>>> 1 // 0\nraises ZeroDivisionError()", {})

@@ -30,6 +30,20 @@ ilshift irshift neg pos invert abs bool contains getitem setitem all version nam
 # L17: words that stand nowhere as names.
 BARRED = {"register", "mro", "elements", "open", "input", "law", "version_info", "with_traceback", "add_note"}
 
+# L25: the methods of builtin values that may be called.
+METHODS = set("""append clear copy count endswith extend find get index insert isalnum isalpha isdigit islower isspace
+isupper items join keys ljust lower lstrip partition pop remove replace reverse rfind rjust rpartition rsplit rstrip
+setdefault split splitlines startswith strip update upper values zfill bit_length title capitalize swapcase casefold
+center expandtabs removeprefix removesuffix rindex isascii isdecimal isnumeric istitle isidentifier isprintable
+translate encode decode hex add discard format""".split())
+
+# L22: the keywords of builtins.
+KEYWORDS = {"sorted": {"key", "reverse"}, "min": {"key", "default"}, "max": {"key", "default"}, "sum": {"start"},
+            "enumerate": {"start"}, "zip": {"strict"}}
+
+# L23: what may iterate over a zip and the like that is not kept.
+AT_ONCE = set("list tuple dict sorted sum any all enumerate zip min max".split())
+
 OUTSIDE = (ast.Global, ast.AsyncFunctionDef, ast.AsyncFor, ast.AsyncWith, ast.Await, ast.GeneratorExp, ast.Div,
            ast.MatMult)
 
@@ -169,6 +183,68 @@ class RulesTest(unittest.TestCase):
                     for name in bound_names(node):
                         if node not in [target for top in tree.body for target in getattr(top, "targets", [])]:
                             self.assertNotIn(name, names, path)
+
+    def test_methods(self):
+        own = {node.name for _, node in nodes() if isinstance(node, ast.FunctionDef)}
+        for path, node in nodes():
+            if isinstance(node, ast.Call) and isinstance(node.func, ast.Attribute):
+                self.assertIn(node.func.attr, METHODS | own, (path, node.lineno))
+
+    def test_calls_of_builtins(self):
+        for path, node in nodes():
+            if isinstance(node, ast.Call) and isinstance(node.func, ast.Name) and node.func.id in PYTHONS_NAMES:
+                name, told = node.func.id, (path, node.lineno)
+                self.assertLessEqual({word.arg for word in node.keywords}, KEYWORDS.get(name, set()), told)
+                if name not in ("max", "min", "zip"):
+                    self.assertEqual([one for one in node.args if isinstance(one, ast.Starred)], [], told)
+
+    def test_functions_of_the_library(self):
+        """They are only called, by their bare names, without stars and keywords."""
+        names = set().union(*LIBRARY.values()) - {"annotations"}
+        for path, tree in trees():
+            taken = {alias.name for node in tree.body if isinstance(node, ast.ImportFrom) and node.module in LIBRARY
+                     for alias in node.names} & names
+            calls = [node for node in ast.walk(tree) if isinstance(node, ast.Call)
+                     and isinstance(node.func, ast.Name) and node.func.id in taken]
+            self.assertEqual([node for node in calls if node.keywords], [], path)
+            self.assertEqual([one for node in calls for one in node.args if isinstance(one, ast.Starred)], [], path)
+            used = [node for node in ast.walk(tree) if isinstance(node, ast.Name) and node.id in taken]
+            self.assertEqual(len(used), len(calls), path)
+
+    def test_iterated_at_once(self):
+        for path, tree in trees():
+            for node in ast.walk(tree):
+                if isinstance(node, (ast.For, ast.comprehension)):
+                    allowed = [node.iter]
+                elif isinstance(node, ast.Call) and isinstance(node.func, ast.Name) and node.func.id in AT_ONCE:
+                    allowed = node.args
+                elif isinstance(node, ast.Compare) and isinstance(node.ops[0], (ast.In, ast.NotIn)):
+                    allowed = node.comparators
+                else:
+                    allowed = []
+                for one in ast.iter_child_nodes(node):
+                    if isinstance(one, ast.Call) and isinstance(one.func, ast.Name):
+                        if one.func.id in ("zip", "enumerate", "reversed", "range", "map"):
+                            self.assertIn(one, allowed, (path, one.lineno))
+
+    def test_sets(self):
+        """A set stands in sorted or len, or behind in, and is not kept."""
+        for path, tree in trees():
+            for node in ast.walk(tree):
+                for one in ast.iter_child_nodes(node):
+                    plain = isinstance(one, ast.Call) and isinstance(one.func, ast.Name) and one.func.id == "set"
+                    if plain or isinstance(one, (ast.Set, ast.SetComp)):
+                        self.assertIsInstance(node, (ast.Call, ast.Compare), (path, one.lineno))
+                        if isinstance(node, ast.Call):
+                            self.assertIn(node.func.id, ("sorted", "len"), (path, one.lineno))
+
+    def test_no_two_files_need_each_other(self):
+        needs = {path.stem: {node.module.split(".")[-1] for node in tree.body if isinstance(node, ast.ImportFrom)
+                             and node.module.startswith("alltriangular")} for path, tree in trees()}
+        while needs:
+            free = [name for name, others in needs.items() if not others & set(needs)]
+            self.assertTrue(free, needs)
+            needs = {name: others for name, others in needs.items() if name not in free}
 
     def test_caught_errors(self):
         barred = {"Exception", "TypeError", "ArithmeticError", "OverflowError", "RuntimeError", "NotImplementedError",

@@ -2,7 +2,8 @@ import unittest
 
 from alltriangular.errors import InvalidTables
 from alltriangular.lots import Lot
-from samples import MOST, STAIRS, STAIRS_TEXT, SWING, TURN, Sly, filled, odd_values, plain_lots, table_of, written
+from samples import (MOST, STAIRS, STAIRS_TEXT, SWING, TURN, Sly, filled, no_tables, odd_values, plain_lots, table_of,
+                     written)
 
 
 class MakingTest(unittest.TestCase):
@@ -50,24 +51,14 @@ class MakingTest(unittest.TestCase):
     def test_no_tables(self):
         self.wrong((), None)
 
-    def no_tables(self):
-        """Values that are no tables."""
-        return odd_values() + [
-            "", "table", "12", (), ((),), ((), ()), ((1, 2),), ((1,), (2,)), ((1, 2), (3,)), ((1,), (2, 3)),
-            ((1, 2), (3, 4), (5, 6)), ((1, 2, 3), (4, 5, 6)), filled(5, 0), [[1]], [(1,)], ([1],), ((1, 2), [3, 4]),
-            ((True,),), ((False,),), ((1, 0), (0, True)), ((False, 1), (1, 1)), (("1",),), ((None,),), ((1, None), (1, 1)),
-            (("12"), ("34")), ("1",), (1,), (1, 2), ((b"1",),), (((1,),),), ((Sly(),),), (Sly(), Sly()), ((1, 2), None),
-            Lot(TURN),
-        ]
-
     def test_no_table_first(self):
-        for value in self.no_tables():
+        for value in no_tables():
             self.wrong((value,), 0)
             self.wrong((value, ((1,),)), 0)
             self.wrong((value, value, value, value), 0)
 
     def test_no_table_later(self):
-        for value in self.no_tables():
+        for value in no_tables():
             for size in (1, 2, 3, 4):
                 good = table_of(size, 1)
                 self.wrong((good, value), 1)
