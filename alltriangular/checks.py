@@ -1,8 +1,8 @@
 """The errors that arguments raise wherever they occur."""
 
 from alltriangular.bases import reduced
-from alltriangular.errors import InvalidColumns, InvalidTable, InvalidView, InvalidWord, NotLot
-from alltriangular.kinds import is_index, is_integer, is_table
+from alltriangular.errors import InvalidColumns, InvalidTable, InvalidView, InvalidWish, InvalidWord, NotLot
+from alltriangular.kinds import is_index, is_integer, is_table, is_wish
 from alltriangular.limits import MOST_COLUMNS, MOST_LETTERS
 from alltriangular.lots import Lot
 
@@ -53,3 +53,9 @@ def check_view(view, size):
     """Raises InvalidView unless this is a view of this size."""
     if not is_view(view, size):
         raise InvalidView(view)
+
+
+def check_wish(wish):
+    """Raises InvalidWish unless this is a wish."""
+    if not is_wish(wish):
+        raise InvalidWish(wish)

@@ -1,6 +1,8 @@
-"""Kinds of plain values: integers, tables, the texts of lots, and changes of their lines."""
+"""Kinds of plain values: integers, tables, the texts of lots, changes of their lines, and wishes."""
 
 from alltriangular.limits import MOST_NUMBER, MOST_SIZE
+
+PLAIN_WISHES = ("roots", "plain", "commute", "all")
 
 
 def is_integer(value):
@@ -11,6 +13,11 @@ def is_integer(value):
 def is_index(value, many):
     """Whether a value is the index of one of so many things."""
     return is_integer(value) and 0 <= value < many
+
+
+def is_size(value):
+    """Whether a value is a size of tables."""
+    return is_integer(value) and 1 <= value <= MOST_SIZE
 
 
 def is_number(value):
@@ -84,3 +91,12 @@ def changed_text(text, changes):
         lines[at] = new
     # No line of a lot's text is empty, so the empty ones are those that are taken out.
     return "\n".join([line for line in lines if line != ""])
+
+
+def is_wish(value):
+    """Whether a value is a wish."""
+    if not isinstance(value, tuple) or not value or not isinstance(value[0], str):
+        return False
+    if value[0] in PLAIN_WISHES:
+        return len(value) == 1
+    return value[0] == "words" and len(value) == 2 and is_integer(value[1]) and value[1] >= 0

@@ -35,11 +35,16 @@ def shifted(table, number):
     return tuple([tuple([table[row][at] + (number if row == at else 0) for at in range(size)]) for row in range(size)])
 
 
-def bracket(one, other):
-    """The product of two tables less their product in the other order."""
-    there = times(one, other)
+def carried(one, table, other):
+    """The product of one table and a second one, less that of a third one and the first."""
+    there = times(one, table)
     back = times(other, one)
     return tuple([tuple([first - less for first, less in zip(*lines)]) for lines in zip(there, back)])
+
+
+def bracket(one, other):
+    """The product of two tables less their product in the other order."""
+    return carried(one, other, other)
 
 
 def trace_of(table):

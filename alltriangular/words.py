@@ -3,7 +3,7 @@
 from alltriangular.bases import coefficients, joined, kernel, reduced
 from alltriangular.checks import check_lot, check_table, check_word
 from alltriangular.errors import OtherSize
-from alltriangular.tables import bracket, dot, flat, fraction, in_rows, times, trace_of, transposed, unit
+from alltriangular.tables import carried, dot, flat, fraction, in_rows, times, trace_of, transposed, unit
 
 
 def product(lot, word):
@@ -77,12 +77,18 @@ def radical(lot):
 def commuting(lot):
     """The reduced basis of the tables that have with each table of the lot one product in both orders."""
     check_lot(lot)
-    many = lot.size * lot.size
-    # Each table with one 1 and 0 elsewhere gives a column: how far it is from getting along.
-    columns = [brackets(in_rows(one, lot.size), lot.tables) for one in unit(many)]
-    return tuple([in_rows(one, lot.size) for one in kernel(transposed(columns), many)])
+    return carrying(lot.tables, lot.tables)
 
 
-def brackets(one, tables):
-    """The numbers of the products of a table and each of these, less those in the other order."""
-    return tuple([number for table in tables for number in flat(bracket(one, table))])
+def carrying(tables, others):
+    """The reduced basis of the tables that, times each of the tables, are the other one with this index times them."""
+    size = len(tables[0])
+    many = size * size
+    # Each table with one 1 and 0 elsewhere gives a column: how far it is from carrying one to the other.
+    columns = [distances(in_rows(one, size), tables, others) for one in unit(many)]
+    return tuple([in_rows(one, size) for one in kernel(transposed(columns), many)])
+
+
+def distances(one, tables, others):
+    """The numbers of one times each of the tables, less the other one with this index times it."""
+    return tuple([number for pair in zip(tables, others) for number in flat(carried(one, *pair))])

@@ -3,7 +3,7 @@
 import inspect
 import unittest
 
-from alltriangular import own, spaces, views, words
+from alltriangular import alike, growing, lots, mends, own, spaces, views, words
 from alltriangular.lots import Lot
 from alltriangular.words import product
 from lots_made import all_lots
@@ -16,6 +16,16 @@ INTERFACE = {
     spaces: {"spun": ["lot", "columns"], "killed": ["lot"], "seen": ["lot", "view"], "beside": ["lot", "other"]},
     views: {"barred": ["lot"], "over_roots": ["lot"], "over_fractions": ["lot"], "view": ["lot"], "layers": ["lot"],
             "layer_view": ["lot"]},
+    alike: {"alike": ["lot", "other"], "parted": ["lot", "other"]},
+    mends: {"holds": ["lot", "wish"], "mends": ["lot", "wishes", "changes"]},
+}
+
+# For each class the parameters of its methods, that of the object itself left out, and its properties.
+CLASSES = {
+    lots.Lot: ({"__init__": ["tables"], "changed": ["changes"], "__eq__": ["other"], "__len__": [], "__str__": [],
+                "__repr__": []}, ["tables", "size", "text"]),
+    growing.Growing: ({"__init__": ["size"], "add": ["table"], "undo": [], "trial": [], "tried": ["action"],
+                       "__len__": []}, ["size", "tables", "words", "bar"]),
 }
 
 
@@ -27,7 +37,9 @@ def asked(lot):
     found = [words.product(lot, (0, len(lot) - 1)), words.trace(lot, (len(lot) - 1, 0)), words.words(lot), words.is_all(lot),
              words.combination(lot, corner), words.radical(lot), words.commuting(lot), own.own_numbers(lot.tables[-1]),
              own.directions(lot), spaces.spun(lot, upper), spaces.killed(lot), spaces.seen(lot, upper), views.barred(lot),
-             views.over_roots(lot), views.over_fractions(lot), views.layers(lot), views.layer_view(lot)]
+             views.over_roots(lot), views.over_fractions(lot), views.layers(lot), views.layer_view(lot),
+             alike.alike(lot, lot), alike.parted(lot, lot), mends.holds(lot, ("plain",)),
+             mends.mends(lot, (("plain",),), ((2, "0 " * (size - 1) + "0"),))]
     if size <= 2:
         found.append(spaces.beside(lot, lot).tables)
     if views.over_fractions(lot):
@@ -49,6 +61,21 @@ class InterfaceTest(unittest.TestCase):
                 self.assertEqual(list(found), parameters, name)
                 self.assertEqual({one.kind for one in found.values()}, {inspect.Parameter.POSITIONAL_OR_KEYWORD})
                 self.assertEqual({one.default for one in found.values()}, {inspect.Parameter.empty})
+
+    def test_classes(self):
+        """Each method and property stands in the class itself, and takes the parameters of the document."""
+        for one, (methods, properties) in CLASSES.items():
+            for name, parameters in methods.items():
+                self.assertTrue(inspect.isfunction(vars(one)[name]), name)
+                found = inspect.signature(vars(one)[name]).parameters
+                self.assertEqual(len(found) - 1, len(parameters), name)
+                if name == "__init__" or name[0] != "_":
+                    self.assertEqual(list(found)[1:], parameters, name)
+                self.assertEqual({part.default for part in found.values()}, {inspect.Parameter.empty})
+            for name in properties:
+                self.assertIsInstance(vars(one)[name], property)
+            self.assertIsInstance(vars(lots.Lot)["read"], classmethod)
+            self.assertTrue(one.__module__.startswith("alltriangular."))
 
 
 class AskingTest(unittest.TestCase):

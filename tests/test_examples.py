@@ -52,6 +52,28 @@ raises InvalidTables(index=1)
 >>> view(turn)
 raises NotTriangular(given=('own', 0))
 """),
+    ("alltriangular/alike.py", r"""
+>>> from alltriangular.alike import alike, parted
+>>> upside = Lot((((1, 0), (1, 1)), ((3, 0), (0, 2))))
+>>> flat = Lot((((1, 0), (0, 1)), ((2, 0), (0, 3))))
+>>> [alike(stairs, upside) is None, alike(stairs, flat), parted(stairs, flat), parted(stairs, swing), parted(stairs, turn), parted(stairs, upside)]
+[False, None, None, (0,), (), None]
+"""),
+    ("alltriangular/mends.py", r"""
+>>> from alltriangular.mends import holds, mends
+>>> [holds(stairs, ("plain",)), holds(turn, ("roots",)), holds(turn, ("plain",)), holds(swing, ("all",)), holds(stairs, ("commute",)), holds(stairs, ("words", 3))]
+[True, True, False, True, False, True]
+>>> mends(swing, (("plain",),), ((2, "0 0"), (3, "0 1"), (6, "0 0"), (5, "0 2")))
+((0,), (2,))
+"""),
+    ("alltriangular/growing.py", r"""
+>>> from alltriangular.growing import Growing
+>>> growing = Growing(2)
+>>> [growing.words, growing.add(((0, 1), (0, 0))), growing.bar, growing.add(((0, 0), (1, 0))), growing.bar, len(growing), growing.undo(), growing.words, growing.tried(len)]
+[((),), 2, None, 4, ('word', 0, 1, (0, 1)), 2, None, ((), (0,)), 1]
+>>> growing.add(((1,),))
+raises OtherSize(given=1)
+"""),
 ]
 
 

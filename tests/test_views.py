@@ -3,41 +3,15 @@ from fractions import Fraction
 from random import Random
 
 from alltriangular.lots import Lot
-from alltriangular.own import own_numbers
 from alltriangular.spaces import seen
 from alltriangular.views import barred, layer_view, layers, over_fractions, over_roots, view
 from lots_made import (all_lots, any_table, commuting_lots, edge_lots, triangular_lots, turned, turning_lots,
                        upper_table)
 from raising import Raising, raises
-from reckoning import (basis_of, determinant, inside, less, made, made_column, own_by_search, row_behind_row,
-                       searched_radical, searched_spaces, searched_words, unit_table, word_product, word_trace)
+from reckoning import (basis_of, determinant, inside, less, made, made_column, row_behind_row, searched_radical,
+                       searched_spaces, searched_words, unit_table, word_product, word_trace)
 from samples import MOST, STAIRS, SWING, TURN, filled, no_lots
-
-
-def most_own(table):
-    return max(sum(abs(number) for number in row) for row in table)
-
-
-def own_counted(table):
-    """How many own numbers a table has: by a search where that is short."""
-    found = own_by_search(table, most_own(table)) if most_own(table) <= 60 else own_numbers(table)
-    return sum(many for _, many in found)
-
-
-def bar_by_search(tables):
-    """What bars the lot, tried in the order of the document."""
-    words = sorted(searched_words(tables), key=lambda word: (len(word), word))
-    products = [(word, word_product(tables, word)) for word in words]
-    for i in range(len(tables)):
-        for j in range(i + 1, len(tables)):
-            apart = less(made(tables[i], tables[j]), made(tables[j], tables[i]))
-            for word, one in products:
-                if word_trace((apart, one), (0, 1)) != 0:
-                    return ("word", i, j, word)
-    for i, table in enumerate(tables):
-        if own_counted(table) < len(table):
-            return ("own", i)
-    return None
+from searching import bar_by_search, own_counted
 
 
 def is_triangular(tables, found):
