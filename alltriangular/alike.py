@@ -2,14 +2,10 @@
 
 from alltriangular.checks import check_lot
 from alltriangular.determinants import unspoilt
+from alltriangular.lots import has_its_shape
 from alltriangular.spaces import corner_to_corner
 from alltriangular.tables import trace_of
 from alltriangular.words import basis_pairs, carrying
-
-
-def has_its_shape(lot, other):
-    """Whether two lots have as many tables, and one size."""
-    return len(lot) == len(other) and lot.size == other.size
 
 
 def alike(lot, other):

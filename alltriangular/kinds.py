@@ -1,7 +1,10 @@
-"""Kinds of plain values: integers, tables, the texts of lots, changes of their lines, and wishes."""
+"""Kinds of plain values: integers, tables, the texts of lots, changes of their lines, words, wishes, and names."""
 
-from alltriangular.limits import MOST_NUMBER, MOST_SIZE
+from alltriangular.limits import MOST_LETTERS, MOST_NUMBER, MOST_SIZE
 
+LETTERS = "abcdefghijklmnopqrstuvwxyz"
+DIGITS = "0123456789"
+MOST_SIGNS = 8
 PLAIN_WISHES = ("roots", "plain", "commute", "all")
 
 
@@ -91,6 +94,20 @@ def changed_text(text, changes):
         lines[at] = new
     # No line of a lot's text is empty, so the empty ones are those that are taken out.
     return "\n".join([line for line in lines if line != ""])
+
+
+def is_word(value, many):
+    """Whether a value is a word of a lot with so many tables, with no more indexes than words may have."""
+    if not isinstance(value, tuple) or len(value) > MOST_LETTERS:
+        return False
+    return all([is_index(at, many) for at in value])
+
+
+def is_name(value):
+    """Whether a value is a name."""
+    if not isinstance(value, str) or not 1 <= len(value) <= MOST_SIGNS:
+        return False
+    return value[0] in LETTERS and all([sign in LETTERS + DIGITS for sign in value])
 
 
 def is_wish(value):

@@ -60,6 +60,19 @@ class Lot:
         return f"Lot of {len(self._tables)} tables"
 
 
+def lot_in(text):
+    """The lot with this text; None if it is the text of none."""
+    try:
+        return Lot.read(text)
+    except InvalidText:
+        return None
+
+
+def has_its_shape(lot, other):
+    """Whether two lots have as many tables, and one size."""
+    return len(lot) == len(other) and lot.size == other.size
+
+
 def check_tables(tables):
     """Raises InvalidTables unless these are the tables of a lot."""
     if not isinstance(tables, tuple) or not tables:

@@ -1,9 +1,10 @@
 """Wishes for lots, and the least sets of changed lines for which they hold."""
 
 from alltriangular.checks import check_lot, check_wish
-from alltriangular.errors import InvalidChanges, InvalidText, InvalidWishes
-from alltriangular.kinds import is_change, is_wish
+from alltriangular.errors import InvalidChanges, InvalidWishes
+from alltriangular.kinds import changed_text, is_change, is_wish
 from alltriangular.limits import MOST_CHANGES
+from alltriangular.lots import lot_in
 from alltriangular.tables import times
 from alltriangular.views import over_fractions, over_roots
 from alltriangular.words import is_all, words
@@ -50,11 +51,8 @@ def check_choices(changes, lot):
 
 def mended(lot, wishes, changes):
     """Whether these changes of different lines mend the lot for the wishes."""
-    try:
-        other = lot.changed(changes)
-    except InvalidText:
-        return False
-    return all([holds(other, wish) for wish in wishes])
+    other = lot_in(changed_text(lot.text, changes))
+    return other is not None and all([holds(other, wish) for wish in wishes])
 
 
 def longer_sets(sets, changes):
@@ -80,7 +78,7 @@ def mends(lot, wishes, changes):
     found = []
     level = [()]
     while level:
-        found.extend([one for one in level if mended(lot, wishes, tuple([changes[at] for at in one]))])
+        found.extend([one for one in level if mended(lot, wishes, [changes[at] for at in one])])
         # A set that has a least one as a part is none itself, and neither are the longer ones.
         level = [one for one in longer_sets(level, changes) if not has_part(one, found)]
     return tuple(found)

@@ -1,9 +1,11 @@
 """What holds for all functions alike: where they stand, that asking changes nothing, and that answers stay the same."""
 
+import importlib
 import inspect
 import unittest
 
-from alltriangular import alike, growing, lots, mends, own, spaces, views, words
+from alltriangular import (alike, certificates, checker, consoles, growing, libraries, lots, mends, own, spaces, views,
+                           words)
 from alltriangular.lots import Lot
 from alltriangular.words import product
 from lots_made import all_lots
@@ -18,6 +20,9 @@ INTERFACE = {
             "layer_view": ["lot"]},
     alike: {"alike": ["lot", "other"], "parted": ["lot", "other"]},
     mends: {"holds": ["lot", "wish"], "mends": ["lot", "wishes", "changes"]},
+    checker: {"accepts": ["claim", "certificate"]},
+    certificates: {"certify_plain": ["lot"], "certify_roots": ["lot"], "certify_words": ["lot"],
+                   "certify_alike": ["lot", "other"]},
 }
 
 # For each class the parameters of its methods, that of the object itself left out, and its properties.
@@ -26,6 +31,10 @@ CLASSES = {
                 "__repr__": []}, ["tables", "size", "text"]),
     growing.Growing: ({"__init__": ["size"], "add": ["table"], "undo": [], "trial": [], "tried": ["action"],
                        "__len__": []}, ["size", "tables", "words", "bar"]),
+    consoles.Console: ({"__init__": [], "do": ["line"]}, ["names"]),
+    libraries.Library: ({"__init__": [], "__setitem__": ["name", "lot"], "__getitem__": ["name"], "remove": ["name"],
+                         "wish": ["name", "wish"], "lift": ["index"], "undo": [], "__contains__": ["value"],
+                         "__len__": [], "trial": [], "tried": ["action"]}, ["names", "wishes", "changes"]),
 }
 
 
@@ -39,7 +48,8 @@ def asked(lot):
              own.directions(lot), spaces.spun(lot, upper), spaces.killed(lot), spaces.seen(lot, upper), views.barred(lot),
              views.over_roots(lot), views.over_fractions(lot), views.layers(lot), views.layer_view(lot),
              alike.alike(lot, lot), alike.parted(lot, lot), mends.holds(lot, ("plain",)),
-             mends.mends(lot, (("plain",),), ((2, "0 " * (size - 1) + "0"),))]
+             mends.mends(lot, (("plain",),), ((2, "0 " * (size - 1) + "0"),)), certificates.certify_plain(lot),
+             certificates.certify_roots(lot), certificates.certify_words(lot), certificates.certify_alike(lot, lot)]
     if size <= 2:
         found.append(spaces.beside(lot, lot).tables)
     if views.over_fractions(lot):
@@ -74,8 +84,10 @@ class InterfaceTest(unittest.TestCase):
                 self.assertEqual({part.default for part in found.values()}, {inspect.Parameter.empty})
             for name in properties:
                 self.assertIsInstance(vars(one)[name], property)
-            self.assertIsInstance(vars(lots.Lot)["read"], classmethod)
-            self.assertTrue(one.__module__.startswith("alltriangular."))
+            self.assertIn(one.__module__, [module.__name__ for module in (lots, growing, consoles, libraries)])
+            self.assertIs(vars(importlib.import_module(one.__module__))[one.__name__], one)
+        self.assertIsInstance(vars(lots.Lot)["read"], classmethod)
+        self.assertEqual(list(inspect.signature(lots.Lot.read).parameters), ["text"])
 
 
 class AskingTest(unittest.TestCase):

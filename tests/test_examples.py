@@ -74,6 +74,35 @@ raises NotTriangular(given=('own', 0))
 >>> growing.add(((1,),))
 raises OtherSize(given=1)
 """),
+    ("alltriangular/consoles.py", r"""
+>>> from alltriangular.consoles import Console
+>>> console = Console()
+>>> [console.do("lot s lot 2 / table / 0 1 / 0 0 / table / 0 0 / 1 0"), console.do("bar s"), console.do("words s"), console.do("layers s"), console.do("trace s 0 1"), console.do("trace s 0 2"), console.do("bar z")]
+['put', 'word 0 1 : 0 1', '4', '2', '1', 'no word', 'no such lot']
+>>> [console.do("lot t lot 2 / table / 0 -1 / 1 0"), console.do("bar t"), console.do("alike t t"), console.do("alike s t"), console.do("undo"), console.do("words t"), console.do("lot t lot 2"), console.names]
+['put', 'own 0', 'yes', 'no', 'undone', 'no such lot', 'no lot', ('s',)]
+"""),
+    ("alltriangular/libraries.py", r"""
+>>> from alltriangular.libraries import Library
+>>> library = Library()
+>>> library["all"] = stairs
+>>> library.wish("all", ("plain",))
+>>> [library.names, library.wishes, library.changes, "all" in library]
+[('all',), (('all', ('plain',)),), 2, True]
+>>> library["all"] = turn
+raises Broken(index=0)
+"""),
+    ("alltriangular/certificates.py", r"""
+>>> from alltriangular.certificates import certify_alike, certify_plain, certify_roots, certify_words
+>>> from alltriangular.checker import accepts
+>>> pairs = (certify_plain(stairs), certify_plain(swing), certify_plain(turn), certify_roots(turn), certify_words(stairs), certify_alike(stairs, upside))
+>>> [[accepts(*pair) for pair in pairs], [pair[0][0] for pair in pairs], pairs[2][1], pairs[4][0][2], certify_alike(stairs, flat)]
+[[True, True, True, True, True, True], ['plain', 'barred', 'rough', 'roots', 'words', 'alike'], 0, 3, None]
+>>> [accepts(("plain", str(stairs)), ((1, 0), (0, 1))), accepts(("plain", str(stairs)), ((0, 1), (1, 0))), accepts(("barred", str(swing)), (0, 1, (0, 1))), accepts(("roots", str(turn)), ((2,), ((1, 0), (0, 1)))), accepts(("roots", str(turn)), ((1, 1), ((1, 0), (0, 1))))]
+[True, False, True, True, False]
+>>> [accepts(("alike", str(stairs), str(upside)), ((0, 1), (1, 0))), accepts(("parted", str(stairs), str(turn)), ()), accepts(("words", str(turn), 2), ((), (0,))), accepts(("words", str(swing), 3), ((), (0,), (1,)))]
+[True, True, True, False]
+"""),
 ]
 
 
@@ -92,9 +121,10 @@ class ExamplesTest(unittest.TestCase):
         self.assertEqual((told.failed, told.attempted > 9), (0, True))
 
     def test_a_wrong_answer_is_seen(self):
-        found = answers(">>> 1 + 1\n3\n>>> x = 5\n>>> x\n5\n>>> 1 // 0\nraises ZeroDivisionError()", {})
-        self.assertEqual(found, [("1 + 1", "3", "2"), ("x = 5", "", ""), ("x", "5", "5"),
-                                 ("1 // 0", "raises ZeroDivisionError()", "raises ZeroDivisionError()")])
+        found = answers(">>> 1 + 1\n3\n>>> x = 5\n>>> x\n5\n>>> None\n>>> 1 // 0\nraises ZeroDivisionError()\n>>> x = 1 // 0", {})
+        self.assertEqual(found, [("1 + 1", "3", "2"), ("x = 5", "", ""), ("x", "5", "5"), ("None", "", ""),
+                                 ("1 // 0", "raises ZeroDivisionError()", "raises ZeroDivisionError()"),
+                                 ("x = 1 // 0", "", "raises ZeroDivisionError()")])
 
 
 if __name__ == "__main__":

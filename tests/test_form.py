@@ -37,6 +37,15 @@ setdefault split splitlines startswith strip update upper values zfill bit_lengt
 center expandtabs removeprefix removesuffix rindex isascii isdecimal isnumeric istitle isidentifier isprintable
 translate encode decode hex add discard format""".split())
 
+# L17: words that occur nowhere but in comments and docstrings.
+UNWRITTEN = set("""type typing typing_extensions enum Enum IntEnum StrEnum Flag IntFlag Generic Protocol ABC ABCMeta namedtuple
+NamedTuple TypedDict TYPE_CHECKING abstractmethod""".split())
+
+# L5, L6: the parameters of double-underscore methods, where they are told.
+PARAMETERS = {"__eq__": ["self", "other"], "__repr__": ["self"], "__str__": ["self"], "__len__": ["self"], "__bool__": ["self"],
+              "__enter__": ["self"], "__exit__": ["self", "kind", "value", "trace"], "__iter__": ["self"],
+              "__contains__": ["self", "x"], "__getitem__": ["self", "at"], "__setitem__": ["self", "at", "worth"]}
+
 # L22: the keywords of builtins.
 KEYWORDS = {"sorted": {"key", "reverse"}, "min": {"key", "default"}, "max": {"key", "default"}, "sum": {"start"},
             "enumerate": {"start"}, "zip": {"strict"}}
@@ -262,6 +271,90 @@ class RulesTest(unittest.TestCase):
                     if isinstance(sign, (ast.Is, ast.IsNot)):
                         told = (ast.unparse(node.left), ast.unparse(right))
                         self.assertTrue({"None", "True", "False", "self"} & set(told), (path, told))
+
+    def test_words_that_do_not_occur(self):
+        for path, node in nodes():
+            for name in bound_names(node) + [getattr(node, "attr", ""), getattr(node, "id", "")]:
+                self.assertNotIn(name, UNWRITTEN, path)
+        docstrings = {id(top.body[0].value) for _, top in nodes() if isinstance(top, (ast.Module, ast.FunctionDef, ast.ClassDef))
+                      if isinstance(top.body[0], ast.Expr)}
+        for path, node in nodes():
+            if isinstance(node, ast.Constant) and isinstance(node.value, str) and id(node) not in docstrings:
+                self.assertFalse(set(node.value.split()) & UNWRITTEN, path)
+        for path in files():
+            for part in ("(type)", "Meta", "metaclass="):
+                self.assertNotIn(part, path.read_text())
+
+    def test_double_underscore_methods(self):
+        for path, tree in trees():
+            for top in ast.walk(tree):
+                for node in top.body if isinstance(top, ast.ClassDef) else []:
+                    if isinstance(node, ast.FunctionDef) and node.name in PARAMETERS:
+                        self.assertEqual([one.arg for one in node.args.args], PARAMETERS[node.name], (path, node.name))
+                        self.assertIsInstance(node.body[-1], ast.Assign if node.name in ("__exit__", "__setitem__") else (ast.Return, ast.Raise))
+                    if isinstance(node, ast.FunctionDef) and node.name == "__len__":
+                        self.assertEqual([ast.unparse(one.value.func) for one in ast.walk(node) if isinstance(one, ast.Return)], ["len"])
+
+    def test_classes_with_items_are_not_iterated(self):
+        """L5: a class with __getitem__ has an __iter__, which raises TypeError."""
+        for path, tree in trees():
+            for top in ast.walk(tree):
+                if isinstance(top, ast.ClassDef):
+                    methods = {node.name: node for node in top.body if isinstance(node, ast.FunctionDef)}
+                    if "__getitem__" in methods:
+                        self.assertRegex(ast.unparse(methods["__iter__"].body[-1]), r"\Araise TypeError\(")
+
+    def test_rows_of_exit(self):
+        """L6: only attributes that are assigned names and attributes, and questions whether there is an exception."""
+        for path, node in nodes():
+            if isinstance(node, ast.FunctionDef) and node.name == "__exit__":
+                for row in ast.walk(node):
+                    self.assertNotIsInstance(row, (ast.Call, ast.Subscript, ast.BinOp, ast.For, ast.While, ast.Try, ast.Raise), path)
+                    if isinstance(row, ast.If):
+                        self.assertIn(ast.unparse(row.test), ("kind is None", "kind is not None"))
+                    if isinstance(row, ast.Name):
+                        self.assertNotIn(row.id, ("value", "trace"))
+
+    def test_operators_change_nothing(self):
+        """L5: no attribute and no item of what an operator, but for __setitem__, or a property did not create."""
+        for path, node in nodes():
+            if isinstance(node, ast.FunctionDef) and (node.name in set(PARAMETERS) - {"__setitem__", "__exit__", "__enter__"} or any(
+                    ast.unparse(mark) == "property" for mark in node.decorator_list)):
+                for row in ast.walk(node):
+                    self.assertNotIsInstance(row, (ast.Assign, ast.AugAssign, ast.Delete), (path, node.name))
+
+    def test_tables_of_functions(self):
+        """L3: at module level a table has only functions that its own file defines above it."""
+        for path, tree in trees():
+            above = set()
+            for node in tree.body:
+                if isinstance(node, ast.FunctionDef):
+                    above.add(node.name)
+                elif isinstance(node, ast.Assign):
+                    named = {one.id for one in ast.walk(node.value) if isinstance(one, ast.Name)}
+                    self.assertLessEqual(named, above, path)
+                    self.assertEqual(len(node.targets), 1)
+
+    def test_attributes_are_assigned(self):
+        """L18: what is read off an object is assigned to one, or is a method or a property."""
+        known = METHODS | {node.name for _, node in nodes() if isinstance(node, ast.FunctionDef)}
+        known |= {node.attr for _, node in nodes() if isinstance(node, ast.Attribute) and isinstance(node.ctx, ast.Store)}
+        for path, node in nodes():
+            if isinstance(node, ast.Attribute):
+                self.assertIn(node.attr, known, (path, node.lineno))
+                if isinstance(node.ctx, ast.Store):
+                    self.assertIsInstance(node.value, ast.Name, path)
+
+    def test_properties_are_not_assigned(self):
+        properties = {node.name for _, node in nodes() if isinstance(node, ast.FunctionDef)
+                      for mark in node.decorator_list if ast.unparse(mark) == "property"}
+        methods = {node.name for _, top in nodes() if isinstance(top, ast.ClassDef) for node in top.body
+                   if isinstance(node, ast.FunctionDef) and not node.decorator_list}
+        self.assertEqual(properties & methods, set())
+        for path, node in nodes():
+            if isinstance(node, ast.Attribute) and isinstance(node.ctx, ast.Store):
+                self.assertNotIn(node.attr, properties, path)
+                self.assertNotIn(node.attr, methods, path)
 
     def test_strings(self):
         for path, node in nodes():

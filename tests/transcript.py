@@ -2,17 +2,24 @@
 
 
 def told(line, names):
-    """What a line of an example gives, as the document writes it; "" for a statement."""
+    """What a line of an example gives, as the document writes it; "" for a statement, and for None."""
     try:
-        code = compile(line, "example", "eval")
-    except SyntaxError:
-        exec(line, names)
-        return ""
-    try:
-        return repr(eval(code, names))
+        if is_statement(line):
+            exec(line, names)
+            return ""
+        value = eval(line, names)
+        return "" if value is None else repr(value)
     except Exception as error:
         attributes = ", ".join(f"{name}={value!r}" for name, value in vars(error).items())
         return f"raises {error.__class__.__name__}({attributes})"
+
+
+def is_statement(line):
+    try:
+        compile(line, "example", "eval")
+    except SyntaxError:
+        return True
+    return False
 
 
 def answers(text, names):
